@@ -1,0 +1,237 @@
+"""What the tests share: riddles to try, things of anything, and the document's
+words said a second time, as plainly and as slowly as may be."""
+
+import copy
+import itertools
+import random
+
+from twinriddles import errors
+
+EXAMPLE = (3, ((-2, 3), (-1,), (1, -2), (1, 2)))
+
+REFUSALS = (
+    errors.NoName,
+    errors.NoBit,
+    errors.NoTurning,
+    errors.NoAnswer,
+    errors.NoNumber,
+    errors.NoClause,
+    errors.NoPutting,
+    errors.TooMany,
+    errors.NoRiddle,
+    errors.BadNote,
+)
+
+
+def odd_things():
+    """Things of anything, made anew at each call."""
+    return [
+        None, True, False, "", "1", "none", "-1 2", "(1, 2)",
+        0, 1, -1, 2, -2, 3, 5, 6, -6, 7, 30, 31, 10 ** 29, -(10 ** 29),
+        (), [], {}, (0,), (1,), [0], [1], [1, 2], (0, 0), (1, 1), (True,), (False,), (None,), ("1",), ("0", "1"),
+        ((),), ((1,),), ([1],), [[1]], ((), ()), (1, 2, 3, 4, 5, 6), [1, 2, 3, 4, 5],
+        {1: 2}, {0: 1, 1: 0}, {"names": 1, "clauses": [[1]]}, {(): ()}, {1: [1, {2: (3,)}]},
+        [[[[[1]]]]], ((((((),),),),),), [{"a": [{"b": [None]}]}], ({1: 1}, {2: 2}), [(1,), {}], "01", "10",
+        (1, ()), (0, ()), [0, ()], (0, []), (0, {}), (2, ((1,), (2,))), tuple(range(1, 397)), list(range(397)),
+    ]
+
+
+def spoilt(thing, junk):
+    """This thing, and all that comes of putting junk at one place within it."""
+    yield junk
+    if isinstance(thing, tuple):
+        for at, part in enumerate(thing):
+            for other in spoilt(part, junk):
+                yield thing[:at] + (other,) + thing[at + 1:]
+            yield thing[:at] + thing[at + 1:]
+            yield thing[:at] + (junk,) + thing[at:]
+        yield thing + (junk,)
+        yield list(thing)
+        yield dict(enumerate(thing))
+
+
+def signs_of(names):
+    return [sign for sign in range(-names, names + 1) if sign]
+
+
+def every_clause(names):
+    """The set of all clauses of so many names: of each the name, its contrary, or neither."""
+    found = set()
+    for pick in itertools.product((0, 1, -1), repeat=names):
+        clause = tuple(side * name for name, side in enumerate(pick, 1) if side)
+        if clause:
+            found.add(clause)
+    return found
+
+
+def every_turning(names):
+    found = []
+    for order in itertools.permutations(range(1, names + 1)):
+        for sides in itertools.product((1, -1), repeat=names):
+            found.append(tuple(name * side for name, side in zip(order, sides)))
+    return sorted(found)
+
+
+CLAUSES = {names: every_clause(names) for names in range(7)}
+TURNINGS = {names: every_turning(names) for names in range(6)}
+
+
+def whole_tuple(thing):
+    return type(thing) is tuple and all(type(part) is int for part in thing)
+
+
+def riddle_by_words(thing):
+    if type(thing) is not tuple or len(thing) != 2:
+        return False
+    names, clauses = thing
+    if type(names) is not int or names not in (0, 1, 2, 3, 4, 5) or type(clauses) is not tuple:
+        return False
+    if not all(whole_tuple(clause) and clause in CLAUSES[names] for clause in clauses):
+        return False
+    return len(clauses) <= 30 and list(clauses) == sorted(set(clauses))
+
+
+def so_by_words(answer):
+    """The set of the signs that are so at an answer."""
+    return {name if bit else -name for name, bit in enumerate(answer, 1)}
+
+
+def every_answer(names):
+    return list(itertools.product((0, 1), repeat=names))
+
+
+def answers_by_words(riddle):
+    names, clauses = riddle
+    return [answer for answer in every_answer(names)
+            if all(so_by_words(answer) & set(clause) for clause in clauses)]
+
+
+def map_of(turning):
+    """Each sign, and where the turning leads it."""
+    leads = {}
+    for name, sign in enumerate(turning, 1):
+        leads[name], leads[-name] = sign, -sign
+    return leads
+
+
+def led_by_words(riddle, turning):
+    leads = map_of(turning)
+    clauses = [tuple(sorted((leads[sign] for sign in clause), key=lambda sign: (abs(sign), sign)))
+               for clause in riddle[1]]
+    return (riddle[0], tuple(sorted(clauses)))
+
+
+def led_answer_by_words(answer, turning):
+    leads = map_of(turning)
+    so = {leads[sign] for sign in so_by_words(answer)}
+    return tuple(1 if name in so else 0 for name in range(1, len(answer) + 1))
+
+
+def likenesses_by_words(riddle):
+    clauses = {frozenset(clause) for clause in riddle[1]}
+    found = []
+    for turning in TURNINGS[riddle[0]]:
+        leads = map_of(turning)
+        if all(frozenset(leads[sign] for sign in clause) in clauses for clause in clauses):
+            found.append(turning)
+    assert all(led_by_words(riddle, turning) == riddle for turning in found)
+    return found
+
+
+def lots_by_words(things, joined):
+    """The lots of things, joined a list of dicts, each of a thing and where it is led."""
+    return sorted({tuple(sorted({leads[thing] for leads in joined})) for thing in things})
+
+
+def random_riddle(rng, names, many):
+    pool = sorted(CLAUSES[names])
+    return (names, tuple(sorted(rng.sample(pool, min(many, len(pool), 30)))))
+
+
+def closed_riddle(rng, names):
+    """A riddle with likenesses: a few clauses and all that some turnings make of them."""
+    while True:
+        turnings = [rng.choice(TURNINGS[names]) for _ in range(rng.randint(1, 2))]
+        clauses = set(rng.sample(sorted(CLAUSES[names]), rng.randint(1, 2)))
+        known = 0
+        while known < len(clauses) <= 30:
+            known = len(clauses)
+            for turning in turnings:
+                clauses |= set(led_by_words((names, tuple(clauses)), turning)[1])
+        if len(clauses) <= 30:
+            return (names, tuple(sorted(clauses)))
+
+
+def riddle_of(names, *clauses):
+    """A riddle of these clauses, put in order."""
+    return (names, tuple(sorted(clauses)))
+
+
+RING = riddle_of(4, (1, 2), (1, 4), (2, 3), (3, 4))
+ONE_OF_THREE = riddle_of(3, (-1, -2), (-1, -3), (-2, -3), (1, 2, 3))
+
+FIXED_RIDDLES = [
+    EXAMPLE, RING, ONE_OF_THREE,
+    riddle_of(0),
+    riddle_of(1), riddle_of(1, (-1,)), riddle_of(1, (1,)), riddle_of(1, (-1,), (1,)),
+    riddle_of(2), riddle_of(2, (1, 2)), riddle_of(2, (-1, -2), (1, 2)), riddle_of(2, (-1, 2), (1, -2)),
+    riddle_of(2, (1,), (2,)), riddle_of(2, (-1, -2), (-1, 2), (1, -2), (1, 2)),
+    riddle_of(3), riddle_of(3, (1, 2, 3)), riddle_of(3, (-3,), (1, 2)), riddle_of(3, (-2, 3), (-1, 2), (1, -3)),
+    riddle_of(4), riddle_of(4, (1, 2), (3, 4)), riddle_of(4, (-1, 2), (-2, 3), (-3, 4), (1, -4)),
+    riddle_of(5), riddle_of(5, (1, 2, 3, 4, 5)), riddle_of(5, (1, 2), (1, 5), (2, 3), (3, 4), (4, 5)),
+    riddle_of(5, *[(-one, -two) for one, two in itertools.combinations(range(1, 6), 2)]),
+    riddle_of(5, *[(sign,) for sign in signs_of(5)]),
+    riddle_of(5, (-1, 2), (3, 4, 5)), riddle_of(5, (1,), (2,), (3,), (4,), (5,)),
+    riddle_of(5, *sorted(CLAUSES[5])[:30]), riddle_of(5, *sorted(CLAUSES[5])[-30:]),
+]
+
+
+def some_riddles(most=5, rounds=3):
+    """Riddles of none to so many names and none to thirty clauses."""
+    rng = random.Random(20)
+    found = [riddle for riddle in FIXED_RIDDLES if riddle[0] <= most]
+    for names in range(most + 1):
+        for many in (1, 2, 3, 5, 8, 13, 29, 30):
+            for _ in range(rounds if names < 5 else 1):
+                found.append(random_riddle(rng, names, many))
+        for _ in range(rounds * 3 if names else 0):
+            found.append(closed_riddle(rng, names))
+    return list(dict.fromkeys(found))
+
+
+def check_refused(case, refusal, call, *things):
+    """That a call is refused, by this class and by none of the others, and changes nothing."""
+    before = copy.deepcopy(things)
+    with case.assertRaises(refusal) as caught:
+        call(*things)
+    case.assertIs(type(caught.exception), refusal)
+    case.assertIsInstance(caught.exception, errors.RiddleError)
+    case.assertIsInstance(caught.exception, ValueError)
+    for other in REFUSALS:
+        if other is not refusal:
+            case.assertNotIsInstance(caught.exception, other)
+    case.assertEqual(repr(things), repr(before))
+
+
+def check_told(case, call, things, truth):
+    """That True or False itself is told, again too, and what was handed in is as it was."""
+    before = repr(things)
+    for _ in range(2):
+        case.assertIs(call(*things), truth, before)
+    case.assertEqual(repr(things), before)
+
+
+def check_anew(case, call, *things):
+    """That a list is told anew each time, whatever becomes of the one told before."""
+    first = call(*things)
+    second = call(*things)
+    case.assertIs(type(first), list)
+    case.assertEqual(first, second)
+    case.assertIsNot(first, second)
+    first.append("spoilt")
+    first.reverse()
+    case.assertEqual(call(*things), second)
+
+
+def check_rising(case, things):
+    case.assertTrue(all(one < other for one, other in zip(things, things[1:])), things)

@@ -1,0 +1,47 @@
+"""The interface: each name in its module, with its arguments."""
+
+import importlib
+import inspect
+import unittest
+
+INTERFACE = {
+    "riddles": {
+        "is_riddle": ["thing"],
+        "keeps": ["riddle", "thing"],
+        "answers": ["riddle"],
+        "narrowed": ["riddle", "name", "bit"],
+    },
+    "turnings": {
+        "is_turning": ["names", "thing"],
+        "led_sign": ["turning", "sign"],
+        "led": ["riddle", "turning"],
+        "led_answer": ["answer", "turning"],
+        "behind": ["one", "other"],
+        "back": ["turning"],
+        "still": ["names"],
+        "order_of": ["turning"],
+    },
+    "likenesses": {
+        "is_likeness": ["riddle", "thing"],
+        "likenesses": ["riddle"],
+        "lots_of_signs": ["riddle"],
+        "lots_of_clauses": ["riddle"],
+        "kinds": ["riddle"],
+        "first_of": ["riddle", "answer"],
+        "many_kinds": ["riddle"],
+    },
+}
+
+
+class Interface(unittest.TestCase):
+    def test_names_and_arguments(self):
+        for module, functions in INTERFACE.items():
+            drawn = importlib.import_module("twinriddles." + module)
+            for name, arguments in functions.items():
+                with self.subTest(module=module, name=name):
+                    signature = inspect.signature(getattr(drawn, name))
+                    self.assertEqual(list(signature.parameters), arguments)
+
+
+if __name__ == "__main__":
+    unittest.main()

@@ -1,0 +1,1 @@
+"""Twinriddles: riddles whose answers are alike."""
