@@ -2,6 +2,7 @@
 words said a second time, as plainly and as slowly as may be."""
 
 import copy
+import functools
 import itertools
 import random
 
@@ -74,10 +75,53 @@ def every_turning(names):
 
 CLAUSES = {names: every_clause(names) for names in range(7)}
 TURNINGS = {names: every_turning(names) for names in range(6)}
+SETS = {names: set(turnings) for names, turnings in TURNINGS.items()}
 
 
 def whole_tuple(thing):
     return type(thing) is tuple and all(type(part) is int for part in thing)
+
+
+def turning_by_words(names, thing):
+    return whole_tuple(thing) and thing in SETS[names]
+
+
+def clause_by_words(names, thing):
+    return whole_tuple(thing) and thing in CLAUSES[names]
+
+
+def answer_by_words(names, thing):
+    return whole_tuple(thing) and thing in every_answer(names)
+
+
+def some_turnings(rng, names, many):
+    return [rng.choice(TURNINGS[names]) for _ in range(many)]
+
+
+def none_of(right, names, one, others):
+    """Things of anything that aren't right for so many names: these others, and the one with junk within it."""
+    found = odd_things() + others
+    for junk in (True, False, None, "1", 0, 2, names + 1, [], [1], {}, (1,)):
+        found += spoilt(one, junk)
+    return [thing for thing in found if not right(names, thing)]
+
+
+def no_turnings(names):
+    """Things that are no turning of so many names."""
+    others = [TURNINGS[other][-1] for other in range(6)]
+    return none_of(turning_by_words, names, TURNINGS[names][0], others)
+
+
+def no_answers(names):
+    """Things that are no answer of so many names."""
+    others = [(bit,) * other for other in range(7) for bit in (0, 1, 2, -1)]
+    return none_of(answer_by_words, names, (1, 0, 0, 1, 0)[:names], others)
+
+
+def no_clauses(names):
+    """Things that are no clause of so many names; () is among them."""
+    others = [(names + 1,), (-names - 1,), (1, 1), (1, -1), (2, 1), (-2, 1), (1, 3, 2), (1, 2, 3, 4, 5, 6)]
+    return none_of(clause_by_words, names, (1, -2, 3, -4, 5)[:names], others)
 
 
 def riddle_by_words(thing):
@@ -127,6 +171,7 @@ def led_answer_by_words(answer, turning):
     return tuple(1 if name in so else 0 for name in range(1, len(answer) + 1))
 
 
+@functools.lru_cache(maxsize=None)
 def likenesses_by_words(riddle):
     clauses = {frozenset(clause) for clause in riddle[1]}
     found = []
@@ -141,6 +186,17 @@ def likenesses_by_words(riddle):
 def lots_by_words(things, joined):
     """The lots of things, joined a list of dicts, each of a thing and where it is led."""
     return sorted({tuple(sorted({leads[thing] for leads in joined})) for thing in things})
+
+
+def answer_maps(riddle):
+    """For each likeness each answer, and where it is led."""
+    return [{answer: led_answer_by_words(answer, turning) for answer in every_answer(riddle[0])}
+            for turning in likenesses_by_words(riddle)]
+
+
+@functools.lru_cache(maxsize=None)
+def kinds_by_words(riddle):
+    return lots_by_words(answers_by_words(riddle), answer_maps(riddle))
 
 
 def random_riddle(rng, names, many):

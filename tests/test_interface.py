@@ -30,6 +30,29 @@ INTERFACE = {
         "first_of": ["riddle", "answer"],
         "many_kinds": ["riddle"],
     },
+    "spans": {
+        "spanned": ["names", "some"],
+        "few_spanning": ["riddle"],
+        "stays": ["riddle", "answer"],
+        "lot_of": ["riddle", "answer"],
+    },
+    "rows": {
+        "left": ["riddle", "rows"],
+        "lost": ["riddle", "rows"],
+        "are_sharp": ["riddle", "thing"],
+        "sharp_rows": ["riddle"],
+    },
+    "papers": {
+        "is_paper": ["riddle", "thing"],
+        "follows": ["riddle", "clause"],
+        "paper_of": ["riddle", "clause"],
+    },
+    "putting": {
+        "may_put": ["riddle", "clause", "turning"],
+        "is_putting": ["riddle", "thing"],
+        "put_in": ["riddle", "putting"],
+        "all_puttings": ["riddle"],
+    },
 }
 
 

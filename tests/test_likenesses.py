@@ -3,8 +3,8 @@
 import unittest
 
 from samples import (
-    EXAMPLE, FIXED_RIDDLES, ONE_OF_THREE, RING, TURNINGS, answers_by_words, check_anew, check_refused, check_rising,
-    check_told, every_answer, led_answer_by_words, led_by_words, likenesses_by_words, lots_by_words, map_of,
+    EXAMPLE, FIXED_RIDDLES, ONE_OF_THREE, RING, TURNINGS, answer_maps, answers_by_words, check_anew, check_refused,
+    check_rising, check_told, every_answer, kinds_by_words, led_by_words, likenesses_by_words, lots_by_words, map_of,
     odd_things, signs_of, some_riddles, spoilt, whole_tuple,
 )
 from twinriddles.errors import NoAnswer
@@ -14,11 +14,6 @@ from twinriddles.likenesses import (
 
 RIDDLES = some_riddles(rounds=2)
 LIKENESSES = {riddle: likenesses_by_words(riddle) for riddle in RIDDLES}
-
-
-def answer_maps(riddle):
-    return [{answer: led_answer_by_words(answer, turning) for answer in every_answer(riddle[0])}
-            for turning in LIKENESSES[riddle]]
 
 
 class Samples(unittest.TestCase):
@@ -130,7 +125,7 @@ class Kinds(unittest.TestCase):
     def test_all_kinds(self):
         for riddle in RIDDLES:
             told = kinds(riddle)
-            self.assertEqual(told, lots_by_words(answers_by_words(riddle), answer_maps(riddle)))
+            self.assertEqual(told, kinds_by_words(riddle))
             check_rising(self, told)
             self.assertEqual(sorted(answer for kind in told for answer in kind), answers_by_words(riddle))
             for kind in told:

@@ -4,36 +4,13 @@ import random
 import unittest
 
 from samples import (
-    EXAMPLE, FIXED_RIDDLES, TURNINGS, check_refused, check_told, every_answer, led_answer_by_words, led_by_words,
-    map_of, odd_things, random_riddle, signs_of, so_by_words, some_riddles, spoilt, whole_tuple,
+    EXAMPLE, FIXED_RIDDLES, SETS, TURNINGS, check_refused, check_told, every_answer, led_answer_by_words,
+    led_by_words, map_of, no_turnings, odd_things, random_riddle, signs_of, so_by_words, some_riddles, some_turnings,
+    spoilt, turning_by_words, whole_tuple,
 )
 from twinriddles.errors import NoTurning
 from twinriddles.riddles import is_riddle, keeps
 from twinriddles.turnings import back, behind, is_turning, led, led_answer, led_sign, order_of, still
-
-SETS = {names: set(turnings) for names, turnings in TURNINGS.items()}
-
-
-def turning_by_words(names, thing):
-    return whole_tuple(thing) and thing in SETS[names]
-
-
-def some_turnings(rng, names, many):
-    return [rng.choice(TURNINGS[names]) for _ in range(many)]
-
-
-def no_turnings(names):
-    """Things that are no turning of so many names."""
-    found = [thing for thing in odd_things() if not turning_by_words(names, thing)]
-    for other in range(6):
-        if other != names:
-            found.append(TURNINGS[other][-1])
-    for turning in TURNINGS[names][:1]:
-        for junk in (True, False, None, "1", 0, names + 1, [], [1], {}, (1,)):
-            for thing in spoilt(turning, junk):
-                if not turning_by_words(names, thing):
-                    found.append(thing)
-    return found
 
 
 class IsTurning(unittest.TestCase):

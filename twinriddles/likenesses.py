@@ -77,12 +77,17 @@ def lots_of_clauses(riddle):
     return lots(list(range(len(clauses))), reach)
 
 
+def answers_reached(answer, turnings):
+    """The rising list of the answers to which these turnings lead an answer."""
+    return sorted({led_answer(answer, turning) for turning in turnings})
+
+
 def kinds_among(riddle, some):
     """The kinds into which these answers fall by the riddle's likenesses, rising."""
     turnings = likenesses(riddle)
 
     def reach(answer):
-        return tuple(sorted({led_answer(answer, turning) for turning in turnings}))
+        return tuple(answers_reached(answer, turnings))
 
     return lots(some, reach)
 

@@ -1,10 +1,11 @@
 """Riddles, the answers that keep them, and riddles narrowed."""
 
-from twinriddles.errors import NoBit, NoName
+from twinriddles.errors import NoBit, NoName, TooMany
 
 MOST_NAMES = 5
 MOST_CLAUSES = 30
 MOST_SIGNS = 5
+FEW_NAMES = 4
 
 
 def is_whole(thing):
@@ -26,6 +27,11 @@ def is_name(names, thing):
 def is_sign(names, thing):
     """Whether a thing is the sign of one of so many names, or its contrary."""
     return is_whole(thing) and is_name(names, abs(thing))
+
+
+def is_pair(thing):
+    """Whether a thing is a tuple of two."""
+    return isinstance(thing, tuple) and len(thing) == 2
 
 
 def is_rising(things):
@@ -52,10 +58,16 @@ def are_clauses(names, thing):
 
 def is_riddle(thing):
     """Whether a thing is a riddle."""
-    if not isinstance(thing, tuple) or len(thing) != 2:
+    if not is_pair(thing):
         return False
     names, clauses = thing
     return is_whole(names) and 0 <= names <= MOST_NAMES and are_clauses(names, clauses)
+
+
+def check_few_names(names):
+    """Refuse more names than a few."""
+    if names > FEW_NAMES:
+        raise TooMany("the riddle has more than four names")
 
 
 def is_answer(names, thing):
@@ -90,6 +102,11 @@ def all_answers(names):
 def answers(riddle):
     """The rising list of all answers that keep the riddle."""
     return [answer for answer in all_answers(riddle[0]) if keeps(riddle, answer)]
+
+
+def answers_against(riddle, clause):
+    """The rising list of the answers that keep the riddle but not the clause."""
+    return [answer for answer in answers(riddle) if not keeps_clause(answer, clause)]
 
 
 def moved_up(sign, name):
