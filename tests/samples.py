@@ -199,6 +199,75 @@ def kinds_by_words(riddle):
     return lots_by_words(answers_by_words(riddle), answer_maps(riddle))
 
 
+def narrowed_by_words(riddle, name, bit):
+    """Each clause as a set of signs, the names above renamed by a table."""
+    names, clauses = riddle
+    so, gone = (name, -name) if bit == 1 else (-name, name)
+    table = {}
+    for old in range(1, names + 1):
+        if old != name:
+            new = old - 1 if old > name else old
+            table[old], table[-old] = new, -new
+    found = set()
+    for clause in clauses:
+        if so not in clause:
+            found.add(tuple(sorted((table[sign] for sign in set(clause) - {gone}), key=abs)))
+    return None if () in found else (names - 1, tuple(sorted(found)))
+
+
+def against_by_words(riddle, clause):
+    return [answer for answer in answers_by_words(riddle) if not so_by_words(answer) & set(clause)]
+
+
+def may_put_by_words(riddle, clause, turning):
+    if not clause_by_words(riddle[0], clause) or not whole_tuple(turning):
+        return False
+    if turning not in likenesses_by_words(riddle):
+        return False
+    return all(led_answer_by_words(answer, turning) < answer for answer in against_by_words(riddle, clause))
+
+
+def follows_by_words(riddle, clause):
+    return all(so_by_words(answer) & set(clause) for answer in answers_by_words(riddle))
+
+
+def crowd_by_words(names, least, most):
+    """Of each clause that a crowd may have, by how many names there are and are left, whether it has it."""
+    found = set()
+    for clause in CLAUSES[names]:
+        as_they_are = all(sign > 0 for sign in clause)
+        contraries = all(sign < 0 for sign in clause)
+        if (as_they_are and names - len(clause) == least - 1) or (contraries and len(clause) == most + 1):
+            found.add(clause)
+    return (names, tuple(sorted(found)))
+
+
+def beside_by_words(one, other):
+    """Both as one, or None where it is too great."""
+    names = one[0] + other[0]
+    table = {}
+    for name in range(1, other[0] + 1):
+        table[name], table[-name] = name + one[0], -name - one[0]
+    clauses = list(one[1]) + [tuple(table[sign] for sign in clause) for clause in other[1]]
+    return None if names > 5 or len(clauses) > 30 else (names, tuple(sorted(clauses)))
+
+
+def alike_by_words(one, other):
+    if one[0] != other[0]:
+        return None
+    wanted = {frozenset(clause) for clause in other[1]}
+    for turning in TURNINGS[one[0]]:
+        leads = map_of(turning)
+        if all(frozenset(leads[sign] for sign in clause) in wanted for clause in one[1]):
+            if led_by_words(one, turning) == other:
+                return turning
+    return None
+
+
+def least_name_by_words(riddle):
+    return min(led_by_words(riddle, turning) for turning in TURNINGS[riddle[0]])
+
+
 def random_riddle(rng, names, many):
     pool = sorted(CLAUSES[names])
     return (names, tuple(sorted(rng.sample(pool, min(many, len(pool), 30)))))

@@ -21,6 +21,12 @@ WORDS_OUT = re.compile(
     r"namedtuple|NamedTuple|TypedDict|TYPE_CHECKING|abstractmethod)\b|dataclass|overload|contextmanager")
 
 
+METHODS = set(
+    "append clear copy count endswith extend find get index insert isalnum isalpha isdigit islower isspace isupper "
+    "items join keys ljust lower lstrip partition pop remove replace reverse rfind rjust rpartition rsplit rstrip "
+    "setdefault split splitlines startswith strip update upper values zfill bit_length add discard".split())
+
+
 def bound_names(tree):
     found = set()
     for node in ast.walk(tree):
@@ -90,6 +96,39 @@ class Form(unittest.TestCase):
             for node in ast.walk(tree):
                 if isinstance(node, ast.Name) and node.id not in bound:
                     self.assertIn(node.id, BUILTINS)
+
+    def test_only_plain_methods_and_values(self):
+        for path, text, tree in self.files():
+            own = {node.name for node in ast.walk(tree) if isinstance(node, ast.FunctionDef)}
+            own |= {node.attr for node in ast.walk(tree)
+                    if isinstance(node, ast.Attribute) and isinstance(node.ctx, ast.Store)}
+            for node in ast.walk(tree):
+                if isinstance(node, ast.Attribute):
+                    self.assertIn(node.attr, METHODS | own)
+                    self.assertNotRegex(node.attr, r"\A__")
+                if isinstance(node, ast.ClassDef):
+                    self.assertLessEqual(len(node.bases), 1)
+                    for row in node.body:
+                        self.assertTrue(isinstance(row, ast.FunctionDef) or ast.get_docstring(node), node.name)
+                        self.assertNotIsInstance(row, (ast.Assign, ast.AnnAssign))
+
+    def test_only_plain_texts(self):
+        for path, text, tree in self.files():
+            self.assertNotIn("%", text)
+            for node in ast.walk(tree):
+                if isinstance(node, ast.FormattedValue):
+                    self.assertIsNone(node.format_spec)
+
+    def test_only_plain_values_at_the_top(self):
+        for path, text, tree in self.files():
+            for row in tree.body:
+                if isinstance(row, ast.Assign):
+                    for node in ast.walk(row.value):
+                        self.assertIsInstance(node, (ast.Constant, ast.Dict, ast.Tuple, ast.Name, ast.Load))
+                        self.assertTrue(node is row.value or not isinstance(node, ast.Dict))
+                else:
+                    plain = (ast.ImportFrom, ast.FunctionDef, ast.ClassDef)
+                    self.assertTrue(isinstance(row, plain) or row is tree.body[0])
 
 
 if __name__ == "__main__":

@@ -53,6 +53,25 @@ INTERFACE = {
         "put_in": ["riddle", "putting"],
         "all_puttings": ["riddle"],
     },
+    "makes": {
+        "crowd": ["names", "least", "most"],
+        "beside": ["one", "other"],
+    },
+    "alike": {
+        "alike": ["one", "other"],
+        "least_name": ["riddle"],
+        "all_riddles": ["names", "clauses"],
+    },
+    "notes": {
+        "riddle_text": ["riddle"],
+        "answer_text": ["answer"],
+        "turning_text": ["turning"],
+        "riddle_read": ["text"],
+        "turning_read": ["text"],
+    },
+    "desk": {
+        "Desk": [],
+    },
 }
 
 
@@ -64,6 +83,10 @@ class Interface(unittest.TestCase):
                 with self.subTest(module=module, name=name):
                     signature = inspect.signature(getattr(drawn, name))
                     self.assertEqual(list(signature.parameters), arguments)
+
+    def test_a_desk_is_told_lines(self):
+        desk = importlib.import_module("twinriddles.desk").Desk()
+        self.assertEqual(list(inspect.signature(desk.say).parameters), ["line"])
 
 
 if __name__ == "__main__":

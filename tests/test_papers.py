@@ -5,7 +5,7 @@ import unittest
 
 from samples import (
     CLAUSES, EXAMPLE, FIXED_RIDDLES, ONE_OF_THREE, RING, TURNINGS, answers_by_words, check_refused, check_told,
-    clause_by_words, likenesses_by_words, map_of, no_clauses, odd_things, random_riddle, riddle_of, so_by_words,
+    clause_by_words, follows_by_words, likenesses_by_words, map_of, no_clauses, odd_things, random_riddle, riddle_of,
     some_riddles, spoilt, whole_tuple,
 )
 from twinriddles.errors import NoClause
@@ -112,10 +112,6 @@ def any_paper(rng, riddle, many):
         if step is not None and len(paper) < many:
             paper.append(step)
     return tuple(paper)
-
-
-def follows_by_words(riddle, clause):
-    return all(so_by_words(answer) & set(clause) for answer in answers_by_words(riddle))
 
 
 PAPER = (

@@ -4,27 +4,15 @@ import random
 import unittest
 
 from samples import (
-    CLAUSES, EXAMPLE, FIXED_RIDDLES, ONE_OF_THREE, RING, TURNINGS, answers_by_words, check_anew, check_refused,
-    check_rising, check_told, clause_by_words, kinds_by_words, led_answer_by_words, likenesses_by_words, no_clauses,
-    no_turnings, odd_things, riddle_by_words, riddle_of, so_by_words, some_riddles, spoilt, whole_tuple,
+    CLAUSES, EXAMPLE, FIXED_RIDDLES, ONE_OF_THREE, RING, TURNINGS, check_anew, check_refused, check_rising,
+    check_told, kinds_by_words, likenesses_by_words, may_put_by_words, no_clauses, no_turnings, odd_things,
+    riddle_by_words, riddle_of, some_riddles, spoilt, whole_tuple,
 )
 from twinriddles.errors import NoPutting, TooMany
 from twinriddles.putting import all_puttings, is_putting, may_put, put_in
 from twinriddles.riddles import answers
 
 RIDDLES = some_riddles(rounds=2)
-
-
-def against_by_words(riddle, clause):
-    return [answer for answer in answers_by_words(riddle) if not so_by_words(answer) & set(clause)]
-
-
-def may_put_by_words(riddle, clause, turning):
-    if not clause_by_words(riddle[0], clause) or not whole_tuple(turning):
-        return False
-    if turning not in likenesses_by_words(riddle):
-        return False
-    return all(led_answer_by_words(answer, turning) < answer for answer in against_by_words(riddle, clause))
 
 
 def putting_by_words(riddle, thing):

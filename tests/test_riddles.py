@@ -5,7 +5,7 @@ import unittest
 
 from samples import (
     CLAUSES, EXAMPLE, FIXED_RIDDLES, answers_by_words, check_anew, check_refused, check_rising, check_told,
-    every_answer, odd_things, random_riddle, riddle_by_words, some_riddles, spoilt,
+    every_answer, narrowed_by_words, odd_things, random_riddle, riddle_by_words, some_riddles, spoilt,
 )
 from twinriddles.errors import NoBit, NoName
 from twinriddles.riddles import answers, is_riddle, keeps, narrowed
@@ -191,22 +191,6 @@ class Answers(unittest.TestCase):
         for names, many in ((6, 4), (6, 40), (5, 40), (4, 60)):
             clauses = tuple(sorted(rng.sample(sorted(CLAUSES[names]), many)))
             self.assertEqual(answers((names, clauses)), answers_by_words((names, clauses)))
-
-
-def narrowed_by_words(riddle, name, bit):
-    """Each clause as a set of signs, the names above renamed by a table."""
-    names, clauses = riddle
-    so, gone = (name, -name) if bit == 1 else (-name, name)
-    table = {}
-    for old in range(1, names + 1):
-        if old != name:
-            new = old - 1 if old > name else old
-            table[old], table[-old] = new, -new
-    found = set()
-    for clause in clauses:
-        if so not in clause:
-            found.add(tuple(sorted((table[sign] for sign in set(clause) - {gone}), key=abs)))
-    return None if () in found else (names - 1, tuple(sorted(found)))
 
 
 class Narrowed(unittest.TestCase):

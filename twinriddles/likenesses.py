@@ -25,21 +25,31 @@ def longer_by_one(names, begun):
     ]
 
 
-def likenesses(riddle):
-    """The rising list of all likenesses of the riddle."""
+def leading_among(riddle, others):
+    """The rising list of the turnings that lead each clause of the riddle to one of these others."""
     names, clauses = riddle
     begun = [()]
     for name in range(1, names + 1):
         # A beginning leads the clauses of its names alone; one that leads such a
-        # clause out of the riddle is given up here, as no end could mend it.
+        # clause to none of the others is given up here, as no end could mend it.
         ready = [clause for clause in clauses if abs(clause[-1]) == name]
         begun = [
             begin
             for begin in longer_by_one(names, begun)
-            if all([led_clause(clause, begin) in clauses for clause in ready])
+            if all([led_clause(clause, begin) in others for clause in ready])
         ]
-    # No two clauses are led to one, so where each stays in the riddle all are reached.
     return begun
+
+
+def all_leading(one, other):
+    """The rising list of the turnings that lead one riddle to another of as many names."""
+    # No two clauses are led to one, so where there are as many all of the other's are reached.
+    return leading_among(one, other[1]) if len(one[1]) == len(other[1]) else []
+
+
+def likenesses(riddle):
+    """The rising list of all likenesses of the riddle."""
+    return all_leading(riddle, riddle)
 
 
 def lots(things, reach):

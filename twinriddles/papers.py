@@ -2,7 +2,7 @@
 
 from twinriddles.errors import NoClause
 from twinriddles.likenesses import is_likeness
-from twinriddles.riddles import answers_against, is_clause, is_name, is_pair, is_whole
+from twinriddles.riddles import answers_against, is_clause, is_name, is_number, is_pair
 from twinriddles.turnings import led_clause
 
 MOST_STEPS = 200
@@ -15,7 +15,7 @@ def may_be_shown(names, thing):
 
 def is_place(things, thing):
     """Whether a thing is the number of one of these things, from 0 on."""
-    return is_whole(thing) and 0 <= thing < len(things)
+    return is_number(thing, 0, len(things) - 1)
 
 
 def met(one, other, name):

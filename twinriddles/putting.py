@@ -1,8 +1,8 @@
 """Clauses put into a riddle by likenesses, no kind being lost."""
 
 from twinriddles.errors import NoPutting, TooMany
-from twinriddles.likenesses import all_signs, is_likeness, likenesses
-from twinriddles.riddles import MOST_CLAUSES, answers_against, check_few_names, is_clause, is_pair
+from twinriddles.likenesses import is_likeness, likenesses
+from twinriddles.riddles import MOST_CLAUSES, all_clauses, answers_against, check_few_names, is_clause, is_pair
 from twinriddles.rows import first_lowering, lowers
 
 MOST_PAIRS = 30
@@ -35,9 +35,7 @@ def put_in(riddle, putting):
 
 def short_clauses(names):
     """The rising list of all clauses of one or two signs of so many names."""
-    signs = all_signs(names)
-    pairs = [(one, other) for one in signs for other in signs if abs(one) < abs(other)]
-    return sorted([(sign,) for sign in signs] + pairs)
+    return [clause for clause in all_clauses(names) if len(clause) <= 2]
 
 
 def all_puttings(riddle):

@@ -1,6 +1,6 @@
 """Riddles, the answers that keep them, and riddles narrowed."""
 
-from twinriddles.errors import NoBit, NoName, TooMany
+from twinriddles.errors import NoBit, NoName, NoNumber, TooMany
 
 MOST_NAMES = 5
 MOST_CLAUSES = 30
@@ -14,14 +14,25 @@ def is_whole(thing):
     return isinstance(thing, int) and not isinstance(thing, bool)
 
 
+def is_number(thing, least, most):
+    """Whether a thing is a whole number within these bounds."""
+    return is_whole(thing) and least <= thing <= most
+
+
+def check_number(thing, least, most):
+    """Refuse what is no whole number within these bounds."""
+    if not is_number(thing, least, most):
+        raise NoNumber(f"a whole number from {least} to {most} is wanted there")
+
+
 def is_bit(thing):
     """Whether a thing is the whole number 0 or 1."""
-    return is_whole(thing) and 0 <= thing <= 1
+    return is_number(thing, 0, 1)
 
 
 def is_name(names, thing):
     """Whether a thing is the number of one of so many names."""
-    return is_whole(thing) and 1 <= thing <= names
+    return is_number(thing, 1, names)
 
 
 def is_sign(names, thing):
@@ -48,6 +59,14 @@ def is_clause(names, thing):
     return is_rising([abs(sign) for sign in thing])
 
 
+def all_clauses(names):
+    """The rising list of all clauses of so many names."""
+    begun = [()]
+    for name in range(1, names + 1):
+        begun = [begin + more for begin in begun for more in ((), (-name,), (name,))]
+    return sorted([clause for clause in begun if clause != ()])
+
+
 def are_clauses(names, thing):
     """Whether a thing is a tuple of clauses as a riddle of so many names has it."""
     if not isinstance(thing, tuple) or len(thing) > MOST_CLAUSES:
@@ -61,7 +80,7 @@ def is_riddle(thing):
     if not is_pair(thing):
         return False
     names, clauses = thing
-    return is_whole(names) and 0 <= names <= MOST_NAMES and are_clauses(names, clauses)
+    return is_number(names, 0, MOST_NAMES) and are_clauses(names, clauses)
 
 
 def check_few_names(names):

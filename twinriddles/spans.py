@@ -1,8 +1,8 @@
 """What some turnings span, and the likenesses by which an answer stays."""
 
-from twinriddles.errors import NoAnswer, NoNumber
+from twinriddles.errors import NoAnswer
 from twinriddles.likenesses import answers_reached, likenesses
-from twinriddles.riddles import FEW_NAMES, check_few_names, is_answer, is_whole
+from twinriddles.riddles import FEW_NAMES, check_few_names, check_number, is_answer
 from twinriddles.turnings import behind, check_turning, led_answer, still
 
 
@@ -25,8 +25,7 @@ def span_of(names, turnings):
 
 def spanned(names, some):
     """The span of some turnings of so many names, from 0 to 4."""
-    if not is_whole(names) or not 0 <= names <= FEW_NAMES:
-        raise NoNumber("the number of names is one from 0 to 4")
+    check_number(names, 0, FEW_NAMES)
     for turning in some:
         check_turning(names, turning)
     return span_of(names, some)
